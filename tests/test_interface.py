@@ -1,0 +1,117 @@
+"""[21]: which names stand in which file, with which arguments; and the errors."""
+
+import ast
+import importlib
+import inspect
+import pathlib
+import unittest
+
+import touchrights
+import touchrights.errors
+from rules import Rules
+
+FOLDER = pathlib.Path(touchrights.__file__).parent
+
+ERRORS = (
+    ("NoHold", LookupError, "hold", ("ann", "own", "box")),
+    ("NoMember", LookupError, "name", "ann"),
+    ("NoNumber", LookupError, "number", -7),
+    ("NothingDone", LookupError, None, None),
+    ("BadLine", ValueError, "number", 3),
+    ("Barred", ValueError, "number", 0),
+    ("Twice", ValueError, "name", "box"),
+    ("Unfit", ValueError, None, None),
+)
+
+BOOKS = """
+is_book(thing) is_hold(book,thing) members_of(book) is_person(book,name) rights_in(book) holds_of(book,name)
+held_to(book,name) with_person(book,name) with_thing(book,name) with_hold(book,hold) without_hold(book,hold)
+without_member(book,name) part_of(book,some) renamed(book,old,new) turned_still(book,some) turned_alive(book,some)
+beside(one,other) common_members(one,other) lies_in(one,other)
+"""
+
+DEEDS = """
+is_deed(thing) is_row_of_deeds(thing) may_do(book,deed) open_deeds(book) wanted_by(deed) first_barred(book,deeds)
+behind(book,deeds) new_holds(book,deeds) first_with(book,deeds,hold) doers(deeds) made_names(deeds)
+done_without(book,deeds,numbers) behind_without(book,deeds,numbers) needed_deeds(book,deeds,hold)
+lean_row(book,deeds,hold) is_lean_row(book,hold,thing) is_row_for(book,hold,thing)
+"""
+
+INTERFACE = {"books": BOOKS, "deeds": DEEDS}
+
+
+def listed(text):
+    """Pairs of the name of a function and the names of its arguments."""
+    return [(call.split("(")[0], call.split("(")[1][:-1].split(",")) for call in text.split()]
+
+
+def defined_in(name):
+    """What is defined at the top of this file, not imported into it."""
+    tree = ast.parse((FOLDER / f"{name}.py").read_text(encoding="utf-8"))
+    return {part.name for part in tree.body if isinstance(part, (ast.FunctionDef, ast.ClassDef))}
+
+
+class Interface(unittest.TestCase):
+    def test_each_function_is_defined_in_its_file(self):
+        for module, text in INTERFACE.items():
+            for name, _ in listed(text):
+                self.assertIn(name, defined_in(module), module)
+
+    def test_each_function_takes_its_arguments(self):
+        for module, text in INTERFACE.items():
+            for name, arguments in listed(text):
+                function = getattr(importlib.import_module(f"touchrights.{module}"), name)
+                found = inspect.signature(function).parameters
+                self.assertEqual(list(found), arguments, name)
+                for parameter in found.values():
+                    self.assertEqual(parameter.kind, parameter.POSITIONAL_OR_KEYWORD, name)
+                    self.assertIs(parameter.default, parameter.empty, name)
+
+    def test_each_error_is_defined_in_errors(self):
+        for name, _, _, _ in ERRORS:
+            self.assertIn(name, defined_in("errors"))
+
+
+class Errors(Rules, unittest.TestCase):
+    def test_bases(self):
+        for name, base, _, _ in ERRORS:
+            self.assertEqual(getattr(touchrights.errors, name).__bases__, (base,), name)
+
+    def test_no_error_is_a_subclass_of_another(self):
+        for one, _, _, _ in ERRORS:
+            for other, _, _, _ in ERRORS:
+                kin = issubclass(getattr(touchrights.errors, one), getattr(touchrights.errors, other))
+                self.assertEqual(kin, one == other, (one, other))
+
+    def test_made_by_position_and_by_name(self):
+        for name, _, attribute, value in ERRORS:
+            made = getattr(touchrights.errors, name)
+            if attribute is None:
+                self.assertEqual(vars(made()), {}, name)
+                continue
+            for error in (made(value), made(**{attribute: value})):
+                self.assert_same(getattr(error, attribute), value, name)
+
+    def test_values_are_kept_as_they_are(self):
+        for name, _, attribute, _ in ERRORS:
+            if attribute is not None:
+                for value in (0, 10 ** 9, "", "z", ("a", "b", "c"), None):
+                    error = getattr(touchrights.errors, name)(value)
+                    self.assert_same(getattr(error, attribute), value, name)
+
+    def test_attributes_are_wanted(self):
+        for name, _, attribute, _ in ERRORS:
+            made = getattr(touchrights.errors, name)
+            if attribute is not None:
+                self.assertEqual(list(inspect.signature(made).parameters), [attribute], name)
+
+    def test_raised_and_caught_by_its_builtin_class(self):
+        for name, base, attribute, value in ERRORS:
+            made = getattr(touchrights.errors, name)
+            with self.assertRaises(base) as caught:
+                raise (made() if attribute is None else made(value))
+            self.assertIs(type(caught.exception), made)
+
+
+if __name__ == "__main__":
+    unittest.main()

@@ -1,0 +1,1 @@
+"""Touchrights: what houses let that nobody sees into."""
