@@ -20,6 +20,14 @@ def shown_error(error):
     return f"raises {type(error).__name__}({values})"
 
 
+def names_of(*modules):
+    """What stands in these modules, to be used by examples."""
+    names = {}
+    for module in modules:
+        names.update(vars(module))
+    return names
+
+
 def check_examples(case, text, names):
     """Each example of the text, all NAMES that are set being kept from one to the next."""
     for code, want in example_lines(text):

@@ -33,6 +33,19 @@ def in_turns(value, turn=True):
     return parts if turn else tuple(parts)
 
 
+def in_mix(value, turn):
+    """The value with a list in the place of each second tuple, side by side."""
+    if not isinstance(value, (list, tuple)):
+        return value
+    parts = [in_mix(part, (place + turn) % 2) for place, part in enumerate(value)]
+    return parts if turn else tuple(parts)
+
+
+CHANGES = (
+    in_lists, in_turns, lambda value: in_turns(value, False), lambda value: in_mix(value, 0), lambda value: in_mix(value, 1),
+)
+
+
 def has_list(value):
     if isinstance(value, list):
         return True
@@ -59,7 +72,7 @@ class Rules:
         self.assert_same(outcome(function, *args), want, where)
         self.assert_same(outcome(function, **dict(zip(names, args))), want, where)
         self.assert_same(outcome(function, **dict(reversed(list(zip(names, args))))), want, where)
-        for change in (in_lists, in_turns, lambda value: in_turns(value, False)):
+        for change in CHANGES:
             changed = [arg if name == "thing" else change(arg) for name, arg in zip(names, args)]
             kept = copy.deepcopy(changed)
             self.assert_same(outcome(function, *changed), want, where)

@@ -180,6 +180,24 @@ class Rows(Rules, unittest.TestCase):
             ("make", "ann", "kid", "thing", ("hand", "take")), ("make", "kid", "toy", "thing", ("own",)),
         ))
 
+    def test_rights_called_like_sorts_and_words(self):
+        book = (("make", "person"), ("hand", "thing"), oracle.ascending(
+            [("make", "take", "thing"), ("person", "hand", "hand"), ("make", "hand", "thing")]
+            + [(who, right, what) for who in ("make", "person", "thing") for right in ("make", "person", "thing")
+               for what in ("hand", "make")]))
+        for right in ("make", "person", "thing"):
+            for what in ("hand", "make"):
+                deeds = (
+                    ("take", "make", "thing", right, what), ("hand", "person", "hand", right, what),
+                    ("hand", "make", "thing", right, what), ("make", "person", "take", right, (right,)),
+                )[:4 if right != "make" else 3]
+                told, _, barred = oracle.run(book, deeds)
+                self.assertIsNone(barred)
+                self.assert_same(behind(book, deeds), told)
+                self.assert_same(doers(deeds), ("make", "person"))
+                self.assert_same(made_names(deeds), ("take",) if len(deeds) == 4 else ())
+                self.assertIs(is_row_of_deeds(deeds), True)
+
     def test_first_with(self):
         for book, deeds in cases(33, 50, 10, True):
             for hold in row_holds(book, deeds):

@@ -2,16 +2,9 @@
 
 import unittest
 
-from examples import check_examples
+from examples import check_examples, names_of
 import touchrights.books
 import touchrights.deeds
-
-
-def names_of(*modules):
-    names = {}
-    for module in modules:
-        names.update(vars(module))
-    return names
 
 
 SECTION_THREE = r'''

@@ -37,7 +37,31 @@ done_without(book,deeds,numbers) behind_without(book,deeds,numbers) needed_deeds
 lean_row(book,deeds,hold) is_lean_row(book,hold,thing) is_row_for(book,hold,thing)
 """
 
-INTERFACE = {"books": BOOKS, "deeds": DEEDS}
+TOUCHES = """
+reach(book,name) gifts(book,name) brought(book,name) touch_of(book,name,other) circles(book)
+row_of_touches(book,name,other)
+"""
+
+EVER = """
+can_ever(book,hold) who_can(book,right,what) deeds_for(book,hold) closed_table(book) is_closed_table(book,thing)
+opened_by(book,hold) can_with(book,some,hold) fewest_who_act(book,hold)
+"""
+
+LETTERS = """
+is_house(thing) edge_of(house) inner_of(house) is_line(edge,thing) is_lines(edge,thing) lines_of(edge,rights)
+letter_of(house) has_line(house,line) question_of(house,line) shown_by(house,line) is_shown_by(house,line,thing)
+gained(house,hold) needed_holds(house,line)
+"""
+
+OUTSIDES = """
+is_outside(house,thing) put_beside(house,outside) lets(house,outside,hold) brought_outside(house,outside)
+lets_no_more(one,other) alike_outside(one,other) telling_outside(one,other) is_telling(one,other,thing)
+hidden_holds(house) hidden_people(house) idle_border(house)
+"""
+
+INTERFACE = {
+    "books": BOOKS, "deeds": DEEDS, "touches": TOUCHES, "ever": EVER, "letters": LETTERS, "outsides": OUTSIDES,
+}
 
 
 def listed(text):

@@ -1,8 +1,9 @@
 """BOOKS: who holds which right to whom."""
 
 from touchrights.errors import NoHold, Twice, Unfit
-from touchrights.forms import as_set, ascends, is_hold_among, is_name, is_set_of_names, is_tuple_of
-from touchrights.forms import lies_among, need_members, tupled
+from touchrights.forms import (
+    as_set, ascends, is_hold_among, is_name, is_set_of_names, is_tuple_of, lies_among, need_members, tupled,
+)
 
 
 def is_book(thing):
@@ -24,8 +25,7 @@ def _is_set_of_holds(members, thing):
 
 
 def is_hold(book, thing):
-    people, things, holds = tupled(book)
-    return is_hold_among(people + things, thing) and thing in holds
+    return thing in tupled(book)[2]
 
 
 def members_of(book):

@@ -158,11 +158,14 @@ def _need_hold_behind(book, deeds, hold):
         raise NoHold(hold)
 
 
+def _is_there_without(book, deeds, numbers, hold):
+    return hold in _played_without(book, deeds, numbers)[0].holds
+
+
 def needed_deeds(book, deeds, hold):
     book, deeds, hold = tupled(book), tupled(deeds), tupled(hold)
     _need_hold_behind(book, deeds, hold)
-    places = range(len(deeds))
-    return tuple([number for number in places if hold not in _played_without(book, deeds, (number,))[0].holds])
+    return tuple([number for number in range(len(deeds)) if not _is_there_without(book, deeds, [number], hold)])
 
 
 def lean_row(book, deeds, hold):
@@ -170,7 +173,7 @@ def lean_row(book, deeds, hold):
     _need_hold_behind(book, deeds, hold)
     left_out = []
     for number in range(len(deeds)):
-        if hold in _played_without(book, deeds, left_out + [number])[0].holds:
+        if _is_there_without(book, deeds, left_out + [number], hold):
             left_out.append(number)
     done = _played_without(book, deeds, left_out)[1]
     return tuple([deeds[number] for number in done])
@@ -197,15 +200,13 @@ def _only_bringers(book, deeds):
     An idle DEED can be left out for whatever HOLD. Without idle ones nothing is brought by two DEEDS, so
     each DEED on which a HOLD hangs is needed for it: rows however long need not be done anew for each DEED.
     """
-    play = Play(book)
     bringers = {}
     for number, deed in enumerate(deeds):
-        if play.is_idle(deed):
-            return None
-        play.do(deed)
         if deed[0] == "make":
             bringers[deed[2]] = number
         for hold in _given_by(deed):
+            if hold in bringers or hold in book[2]:
+                return None
             bringers[hold] = number
     return bringers
 
