@@ -5,7 +5,7 @@ from rules import same
 
 def example_lines(text):
     """Pairs of what stands behind >>>, and what stands below it, or None."""
-    lines = [line.strip() for line in text.strip().split("\n")]
+    lines = [line.strip() for line in text.split("\n") if line.strip()]
     pairs = []
     for line in lines:
         if line.startswith(">>> "):

@@ -59,8 +59,27 @@ lets_no_more(one,other) alike_outside(one,other) telling_outside(one,other) is_t
 hidden_holds(house) hidden_people(house) idle_border(house)
 """
 
+FOLLOWS = """
+is_edge(thing) fact_of(edge,line) all_that_follow(edge,lines) follows(edge,lines,line) is_closed(edge,thing)
+is_plot(thing) row_of_rules(edge,lines,line) is_row_of_rules(edge,lines,line,thing) used_lines(edge,lines,line)
+least_lots(edge,lines,line)
+"""
+
+MODELS = """
+model(edge,lines) is_model(edge,lines,thing) house_without(edge,lines,more) is_house_without(edge,lines,more,thing)
+has_lines(house,lines) needless_lines(edge,lines) full_house(edge,rights)
+"""
+
+CITIES = """
+is_city(thing) city_edge(city) city_of(houses) all_lines(city) city_letter(city,border) city_lets(city,hold)
+city_holds(city) cut_out(edge,lines,name) joined_plots(city,number,other) emptied(edge) neighbours(city,number)
+surroundings(city,number) changed_for(city,number,lines) brings_it(city,some,hold) needed_places(city,hold)
+fewest_places(city,hold) idle_places(city,border) houses_for(city) is_houses_for(city,thing)
+"""
+
 INTERFACE = {
     "books": BOOKS, "deeds": DEEDS, "touches": TOUCHES, "ever": EVER, "letters": LETTERS, "outsides": OUTSIDES,
+    "follows": FOLLOWS, "models": MODELS, "cities": CITIES,
 }
 
 

@@ -29,6 +29,10 @@ def is_tuple_of(thing, many):
     return isinstance(thing, tuple) and len(thing) == many
 
 
+def is_number(thing):
+    return isinstance(thing, int) and not isinstance(thing, bool)
+
+
 def is_name(thing):
     # The letters are told one by one: isalpha and islower would take signs beyond a to z.
     if not isinstance(thing, str) or not 1 <= len(thing) <= LONGEST_NAME:
@@ -52,6 +56,12 @@ def need_members(members, names):
     for name in names:
         if name not in members:
             raise NoMember(name)
+
+
+def need_lines(edge, lines):
+    """Each LINE tells of NAMES of the EDGE alone."""
+    for line in lines:
+        need_members(edge[0] + edge[1], (line[1], line[-1]))
 
 
 def need_numbers(many, numbers):
