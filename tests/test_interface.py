@@ -77,9 +77,39 @@ surroundings(city,number) changed_for(city,number,lines) brings_it(city,some,hol
 fewest_places(city,hold) idle_places(city,border) houses_for(city) is_houses_for(city,thing)
 """
 
+PROMISES = """
+keeps(house,lines) kept_places(houses,promises) full_plot(edge,rights) freed(promises,some,right) barred(promises,hold)
+barred_but(promises,some,hold) free_places(promises,hold) least_enough(promises,hold) keepers_for(promises,hold)
+is_keepers_for(promises,hold,thing) is_shield(promises,hold,thing) shield(promises,hold) let_more(promises,more)
+spare_lines(promises,number,hold) least_clashes(promises,more,hold) greatest_more(promises,more,hold)
+"""
+
+BLAME = """
+are_breakers(promises,sights,some) least_breakers(promises,sights) surely_broke(promises,sights)
+maybe_broke(promises,sights) first_proof(promises,sights) blamed_lines(promises,sights,number)
+least_breakers_knowing(promises,sights,known) breaking_houses(promises,sights,some)
+is_breaking_houses(promises,sights,some,thing) blame_alike(promises)
+"""
+
+OFFERS = """
+offered_city(city,offers) comes_with(city,offers,hold) opened_with(city,offers) is_safe(city,offers,holds)
+safe_offers(city,offers,holds) clashing_offers(city,offers,holds) greatest_safe(city,offers,holds)
+all_least_offers(city,offers,hold) fewest_offers(city,offers,hold) needed_offers(city,offers,hold)
+all_least_seals(city,offers,hold) fewest_seals(city,offers,hold)
+"""
+
+UNSURE = """
+fits_between(city,promises,number,lines) unsure_places(city,promises) surely_lets(city,promises,hold)
+maybe_lets(city,promises,hold) told_more(city,promises,number,line) deciding_lines(city,promises,hold)
+least_if(city,promises,hold) least_unless(city,promises,hold) least_lines_if(city,promises,hold)
+surely_more(city,promises,sights) letting_city(city,promises,sights,some)
+is_letting_city(city,promises,sights,some,thing)
+"""
+
 INTERFACE = {
     "books": BOOKS, "deeds": DEEDS, "touches": TOUCHES, "ever": EVER, "letters": LETTERS, "outsides": OUTSIDES,
-    "follows": FOLLOWS, "models": MODELS, "cities": CITIES,
+    "follows": FOLLOWS, "models": MODELS, "cities": CITIES, "promises": PROMISES, "blame": BLAME, "offers": OFFERS,
+    "unsure": UNSURE,
 }
 
 

@@ -1,5 +1,6 @@
 """CITIES as the tests see them: HOUSES put beside one another, by DEEDS that are done. Nothing here asks the package."""
 
+import functools
 import random
 
 import houses
@@ -128,18 +129,56 @@ def edge_of_city(city):
     return tuple(oracle.ascending(name for edge, _ in city for name in edge[sort]) for sort in range(2))
 
 
+@functools.lru_cache(maxsize=None)
+def followed(edge, lines):
+    return frozenset(ruled.closure(edge, lines))
+
+
 def told(city, more=()):
     """The set of what follows from all LINES of all plots together, and of more."""
     lines = {line for _, lines in city for line in lines} | set(more)
-    return set(ruled.closure(edge_of_city(city), oracle.ascending(lines)))
+    return followed(edge_of_city(city), oracle.ascending(lines))
 
 
 def lets(city, hold, more=()):
     return ("home",) + hold in told(city, more)
 
 
+def lets_all(city, holds, more=()):
+    return all(lets(city, hold, more) for hold in holds)
+
+
 def full(edge, rights):
     return (edge, houses.all_lines(edge, set(rights) | {"hand", "take"}))
+
+
+def freed(city, some, rights):
+    """The CITY with the plots at some left free, in these rights."""
+    return tuple(full(plot[0], rights) if place in some else plot for place, plot in enumerate(city))
+
+
+def promised(rng, town, lines=2):
+    """Promises that these HOUSES keep: their LETTERS, with some LINES more, and what follows."""
+    plots = []
+    for edge, letter in city_of(town):
+        more = ruled.some_lines(rng, edge, rng.randint(0, lines))
+        plots.append((edge, ruled.closure(edge, oracle.ascending(letter + more))))
+    return tuple(plots)
+
+
+def about_ok(promises, some, holds, thing):
+    """Whether thing is a tuple of HOUSES, those elsewhere than at some keep, and all holds come, by DEEDS."""
+    if not with_edges_ok([edge for edge, _ in promises], thing):
+        return False
+    for place, house in enumerate(thing):
+        if place not in some and not set(houses.letter(house)) <= set(promises[place][1]):
+            return False
+    return set(holds) <= oracle.ever(together(thing))
+
+
+def some_holds(rng, edge, many, rights=("hand", "none", "own", "take")):
+    lots = all_holds(edge, rights)
+    return oracle.ascending(rng.sample(lots, min(many, len(lots))))
 
 
 def house_at_bounds(rng, people, things, sign):

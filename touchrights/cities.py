@@ -8,6 +8,7 @@ from touchrights.follows import is_edge, is_plot, lines_that_come, ties_of
 from touchrights.forms import as_set, is_tuple_of, lies_among, need_members, need_numbers, tupled
 from touchrights.letters import edge_of, is_house, letter_of
 from touchrights.models import house_for
+from touchrights.subsets import fewest_of, least_sets
 
 
 def is_city(thing):
@@ -32,26 +33,30 @@ def told_in_all(plots):
     return as_set([line for _, lines in plots for line in lines])
 
 
-def ties_of_all(plots):
-    """All that comes in HOUSES with these LINES, put beside one another."""
-    return ties_of(edge_of_all(plots), told_in_all(plots))
+def ties_of_all(plots, more=()):
+    """All that comes, in HOUSES with the LINES of these plots put beside one another, if more LINES are told."""
+    return ties_of(edge_of_all(plots), told_in_all(plots) + more)
 
 
-def comes_in_all(plots, hold):
-    return ties_of_all(plots).has_come(("home",) + hold)
+def comes_in_all(plots, hold, more=()):
+    return all_come_in_all(plots, (hold,), more)
+
+
+def all_come_in_all(plots, holds, more=()):
+    """Whether each of these HOLDS comes."""
+    ties = ties_of_all(plots, more)
+    return all([ties.has_come(("home",) + hold) for hold in holds])
 
 
 def letter_of_all(plots):
     return lines_that_come(edge_of_all(plots), told_in_all(plots))
 
 
-def need_names(plots, names):
-    need_members(names_of_all(plots), names)
-
-
-def need_ends(plots, hold):
-    """The two ends of a HOLD are NAMES of these plots."""
-    need_members(names_of_all(plots), (hold[0], hold[2]))
+def need_ends(plots, holds):
+    """Both ends of each of these HOLDS are NAMES of these plots."""
+    names = names_of_all(plots)
+    for hold in holds:
+        need_members(names, (hold[0], hold[2]))
 
 
 def city_edge(city):
@@ -84,7 +89,7 @@ def all_lines(city):
 
 def city_letter(city, border):
     city, border = tupled(city), tupled(border)
-    need_names(city, border)
+    need_members(names_of_all(city), border)
     return _plot_at(edge_of_all(city), letter_of_all(city), border)
 
 
@@ -96,12 +101,12 @@ def _plot_at(edge, lines, names):
 
 def city_lets(city, hold):
     city, hold = tupled(city), tupled(hold)
-    need_ends(city, hold)
+    need_ends(city, (hold,))
     return comes_in_all(city, hold)
 
 
 def city_holds(city):
-    return tuple([line[1:] for line in all_lines(city) if line[0] == "home"])
+    return ties_of_all(tupled(city)).homes_that_came()
 
 
 def cut_out(edge, lines, name):
@@ -134,16 +139,14 @@ def emptied(edge):
 def neighbours(city, number):
     city = tupled(city)
     need_numbers(len(city), (number,))
-    near = []
-    for place, plot in enumerate(city):
-        if place != number and names_in_common(plot, city[number]):
-            near.append(place)
-    return tuple(near)
+    names = names_of_all((city[number],))
+    others = [place for place in range(len(city)) if place != number]
+    return tuple([place for place in others if _names_among(city[place], names)])
 
 
-def names_in_common(one, other):
-    """The set of the NAMES of two plots."""
-    return tuple(sorted(set(names_of_all((one,))) & set(names_of_all((other,)))))
+def _names_among(plot, names):
+    """Those of the NAMES of a plot that are among these."""
+    return [name for name in names_of_all((plot,)) if name in names]
 
 
 def surroundings(city, number):
@@ -154,8 +157,7 @@ def surroundings(city, number):
 
 def _surroundings_of(city, number):
     others = city[:number] + city[number + 1:]
-    outer = names_of_all(others)
-    common = [name for name in names_of_all(city[number:number + 1]) if name in outer]
+    common = _names_among(city[number], names_of_all(others))
     return _plot_at(edge_of_all(others), letter_of_all(others), common)
 
 
@@ -167,7 +169,7 @@ def changed_for(city, number, lines):
     return tuple([place for place in others if _surroundings_of(city, place) != _surroundings_of(changed, place)])
 
 
-def with_only(city, some):
+def _with_only(city, some):
     """The CITY with all plots emptied but those at these places."""
     return tuple([plot if place in some else emptied(plot[0]) for place, plot in enumerate(city)])
 
@@ -179,12 +181,12 @@ def _without(city, place):
 def brings_it(city, some, hold):
     city, hold = tupled(city), tupled(hold)
     need_numbers(len(city), some)
-    need_ends(city, hold)
-    return comes_in_all(with_only(city, some), hold)
+    need_ends(city, (hold,))
+    return comes_in_all(_with_only(city, some), hold)
 
 
 def _need_that_it_comes(city, hold):
-    need_ends(city, hold)
+    need_ends(city, (hold,))
     if not comes_in_all(city, hold):
         raise Unfit()
 
@@ -199,11 +201,7 @@ def fewest_places(city, hold):
     city, hold = tupled(city), tupled(hold)
     _need_that_it_comes(city, hold)
     places = list(range(len(city)))
-    for many in range(len(city) + 1):
-        for some in combinations(places, many):
-            if comes_in_all(with_only(city, some), hold):
-                return some
-    return None
+    return fewest_of(least_sets(places, lambda some: comes_in_all(_with_only(city, some), hold)))
 
 
 def idle_places(city, border):

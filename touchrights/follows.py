@@ -1,9 +1,7 @@
 """What LINES follow from others, FOR ALL HOUSES."""
 
-from touchrights.forms import (
-    as_set, is_number, is_set_of_names, is_tuple_of, need_lines, tupled,
-)
-from touchrights.letters import is_lines, lines_of
+from touchrights.forms import is_number, is_set_of_names, is_tuple_of, need_lines, tupled
+from touchrights.letters import is_lines
 from touchrights.subsets import least_sets
 from touchrights.ties import Ties, in_order, link_of, rights_told
 
@@ -34,8 +32,7 @@ def ties_of(edge, lines):
 
 def lines_that_come(edge, lines):
     """The set of the LINES that follow."""
-    ties = ties_of(edge, lines)
-    return tuple([line for line in lines_of(edge, ties.rights) if ties.has_come(link_of(line))])
+    return ties_of(edge, lines).lines_that_came()
 
 
 def line_comes(edge, lines, line):

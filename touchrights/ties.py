@@ -20,6 +20,36 @@ def link_of(line):
     return in_order(("met" if line[0] == "has" else "reaches", line[1]), ("brings", line[2], line[3]))
 
 
+def line_of(fact):
+    """The LINE that tells this FACT; None if it is a LINK of no LINE."""
+    if fact[0] == "home":
+        return fact
+    low, high = fact
+    if low[0] == "brings":
+        return _line_with_right(low, high)
+    for word, ports in TIED.items():
+        if (low[0], high[0]) == ports:
+            return _line_of_two(word, low[1], high[1])
+        if (high[0], low[0]) == ports:
+            return _line_of_two(word, high[1], low[1])
+    return None
+
+
+def _line_with_right(brought, port):
+    _, right, goal = brought
+    if port[0] == "reaches":
+        return ("puts", port[1], right, goal)
+    if port[0] == "met" and (right != "take" or port[1] != goal):
+        return ("has", port[1], right, goal)
+    return None
+
+
+def _line_of_two(word, one, other):
+    if word in ("takes", "flows") and one == other:
+        return None
+    return (word, one, other)
+
+
 def in_order(one, other):
     return (one, other) if one <= other else (other, one)
 
@@ -47,9 +77,8 @@ class Ties:
     """
 
     def __init__(self, edge, rights):
-        self.people = edge[0]
+        self.people = {name: True for name in edge[0]}
         self.names = as_set(edge[0] + edge[1])
-        self.rights = rights
         pairs = [(right, name) for right in rights for name in self.names]
         ports = [(word, name) for word in ("gives", "met", "reaches") for name in self.names]
         self.ports = as_set(ports + [("brings", right, name) for right, name in pairs])
@@ -64,6 +93,17 @@ class Ties:
     def has_come(self, fact):
         """Whether this FACT, of any PORTS, has come."""
         return self._key(fact) in self.sources
+
+    def homes_that_came(self):
+        """The set of the HOLDS whose LINES "home" have come."""
+        return as_set([key[1:] for key in self.sources if key[0] == "home"])
+
+    def lines_that_came(self):
+        lines = [line_of(self._fact_at(key)) for key in self.sources]
+        return as_set([line for line in lines if line is not None])
+
+    def _fact_at(self, key):
+        return key if key[0] == "home" else (self.ports[key[0]], self.ports[key[1]])
 
     def _key(self, fact):
         if fact[0] == "home":
@@ -86,8 +126,7 @@ class Ties:
 
     def _step(self, key, steps):
         rule, out_of = self.sources[key]
-        fact = key if key[0] == "home" else (self.ports[key[0]], self.ports[key[1]])
-        return (fact, rule, tuple([steps[earlier] for earlier in out_of]))
+        return (self._fact_at(key), rule, tuple([steps[earlier] for earlier in out_of]))
 
     def tell(self, lines):
         """These LINES are told, too, and all comes that follows."""
