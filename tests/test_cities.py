@@ -19,6 +19,7 @@ from touchrights.letters import letter_of
 FLAT = ((("ann",), ("box",), (("ann", "take", "box"),)), ("ann", "box"))
 SHOP = ((("ivy",), ("box", "cup"), (("ivy", "hand", "box"), ("ivy", "take", "cup"))), ("box", "cup"))
 STORE = ((("dan",), ("cup",), (("cup", "own", "dan"),)), ("cup", "dan"))
+STORE_EDGE = (("dan",), ("cup",))
 TOWN = (FLAT, SHOP, STORE)
 CITY = city_of(TOWN)
 LONE = (((("bob",), ()), (("both", "bob", "bob"), ("hands", "bob", "bob"), ("meets", "bob", "bob"))),)
@@ -55,7 +56,7 @@ class Things(Rules, unittest.TestCase):
 
     def test_is_houses_for_at_values_of_all_kinds(self):
         one = (((("kay",), ("box",), (("kay", "take", "box"),)), ("box",)),)
-        for town in (one, (), (STORE,), (bare_store(), bare_store())):
+        for town in (one, (), (STORE,), (bare_store(),), (bare_store(), bare_store())):
             city = towns.city_of(town)
             for thing in list(ODD) + list(near_misses(town)) + [town, list(town), town + town, town[1:]]:
                 self.assert_same(is_houses_for(city, thing), towns.stands_ok(city, thing), thing)
@@ -74,6 +75,14 @@ class Things(Rules, unittest.TestCase):
         city = towns.city_of((inner, near))
         self.assertIs(is_houses_for(city, (inner, near)), False)
         self.assertIs(is_houses_for(city, (other, near)), True)
+
+    def test_is_houses_for_wants_the_edges(self):
+        """LETTERS may be alike where EDGES are not."""
+        city = (emptied(STORE_EDGE),)
+        for thing, want in (((bare_store(),), True), (((bare_store()[0], ("dan",)),), False),
+                            (((((), (), ()), ()),), False), ((((("dan",), (), ()), ("dan",)),), False)):
+            self.assertIs(is_houses_for(city, thing), want, thing)
+        self.assertIs(is_houses_for((emptied(((), ("cup",))),), ((((), (), ()), ()),)), False)
 
     def test_is_houses_for_drawn_ones(self):
         good = 0

@@ -245,6 +245,59 @@ class Rows(Rules, unittest.TestCase):
                 for less in (lines[1:], lines[:-1], ()):
                     self.assertIs(is_row_of_rules(edge, less, line, row), ruled.row_ok(edge, less, line, row))
 
+    def prefix(self, told, fact):
+        """STEPS of which the last one has this FACT: told, or by RULE 3 of two that are told."""
+        if fact in told:
+            return ((fact, 0, ()),)
+        for first in told:
+            for second in told:
+                if fact in ruled.come_of_two(first, second):
+                    return ((first, 0, ()), (second, 0, ()), (fact, 3, (0, 1)))
+        return ()
+
+    def all_links(self, edge):
+        names = edge[0] + edge[1]
+        ports = [(word, name) for word in ("gives", "met", "reaches") for name in names]
+        ports += [("brings", right, name) for right in ruled.RIGHTS for name in names]
+        links = {ruled.ordered(one, other) for one in ports for other in ports}
+        return sorted(links) + [("home", b, right, c) for b in names for right in ruled.RIGHTS for c in names]
+
+    def test_each_step_by_each_rule(self):
+        """All STEPS out of one FACT by RULE 1, 2, 4, 5, and whatever comes by RULE 0, at a PERSON and a THING."""
+        edge = (("a",), ("b",))
+        lines = houses.all_lines(edge, ruled.RIGHTS)
+        told, links = ruled.told_facts(edge, lines), self.all_links(edge)
+        line, last = lines[0], (ruled.fact_of(lines[0]), 0, ())
+        good = 0
+        for number, fact in enumerate(links):
+            self.assert_same(is_row_of_rules(edge, lines, line, ((fact, 0, ()), last)), fact in told, fact)
+            steps = self.prefix(told, fact)
+            for rule in (1, 2, 4, 5) if steps else ():
+                come = ruled.come_of_one(edge, rule, fact)
+                good += len(come)
+                near = {other for other in links if set(other) & set(fact)}
+                for other in come | near | set(links[number % 7::7]):
+                    row = steps + ((other, rule, (len(steps) - 1,)), last)
+                    self.assert_same(is_row_of_rules(edge, lines, line, row), other in come, (fact, rule, other))
+        self.assertGreater(good, 150)
+
+    def test_each_step_out_of_two(self):
+        rng = random.Random(524)
+        edge = (("a",), ("b",))
+        lines = houses.all_lines(edge, ruled.RIGHTS)
+        told, links = sorted(ruled.told_facts(edge, lines), key=repr), self.all_links(edge)
+        line, last = lines[0], (ruled.fact_of(lines[0]), 0, ())
+        good = 0
+        for first in told:
+            for second in rng.sample(told, 20):
+                come = ruled.come_of_two(first, second)
+                good += len(come)
+                for fact in come | {first, second, rng.choice(links)}:
+                    for rule in (3, 4):
+                        row = ((first, 0, ()), (second, 0, ()), (fact, rule, (0, 1)), last)
+                        self.assert_same(is_row_of_rules(edge, lines, line, row), rule == 3 and fact in come, row)
+        self.assertGreater(good, 100)
+
     def test_rows_of_many_steps(self):
         row = ROW[:1] * 3000 + ROW[1:]
         self.assertIs(is_row_of_rules(BOXES, TOLD, ("takes", "car", "box"), row), True)

@@ -75,6 +75,11 @@ class Models(Rules, unittest.TestCase):
             for line in houses.all_lines(edge, ("own",))[::4]:
                 self.check(edge, (line,))
 
+    def test_names_that_are_rights_too(self):
+        for edge in ((("take",), ("b", "hand")), (("hand",), ("own", "take")), (("own", "take"), ("b",))):
+            for line in houses.all_lines(edge, ruled.RIGHTS):
+                self.check(edge, (line,))
+
     def test_is_model(self):
         rng = random.Random(603)
         good = 0

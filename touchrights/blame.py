@@ -82,10 +82,10 @@ def blamed_lines(promises, sights, number):
 
 def least_breakers_knowing(promises, sights, known):
     promises, sights, known = tupled(promises), tupled(sights), tupled(known)
-    _need_sights(promises, sights, [number for number, _ in known])
+    numbers = [number for number, _ in known]
+    _need_sights(promises, sights, numbers)
     for number, lines in known:
         promises = with_plot(promises, number, (promises[number][0], lines))
-    numbers = [number for number, _ in known]
     return _least_of(promises, sights, [place for place in range(len(promises)) if place not in numbers])
 
 

@@ -1,4 +1,4 @@
-"""Least and greatest of the sets that fit, where more of what fits fits, too."""
+"""The least, the greatest and the fewest of sets that fit."""
 
 from itertools import combinations
 
