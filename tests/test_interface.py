@@ -106,10 +106,30 @@ surely_more(city,promises,sights) letting_city(city,promises,sights,some)
 is_letting_city(city,promises,sights,some,thing)
 """
 
+SECRETS = """
+acting(houses,some) still_plot(house,names) plots_by(houses,some) reaches_by(houses,some,name)
+opening_row(houses,some,name) is_opening_row(houses,some,name,thing) opens(houses,some,secret)
+least_openers(houses,secret) greatest_shut(houses,secret) may_read(houses,readers,secret)
+hindered_by(houses,readers,secret) reading_things(houses,readers)
+"""
+
+LEAN = """
+joined_letters(edge,lines,more) common_letter(edge,lines,more) anew(edge,lines,more) lies_within(edge,lines,more)
+is_lean(edge,lines) lean_lines(edge,lines) fewest_lines(edge,lines) least_lines(edge,lines) apart(edge,lines)
+renamed_lines(edge,lines,names) names_between(edge,lines,other,more)
+"""
+
+SEEN = """
+is_event(thing) are_events(thing) could_be(promises,events) impossible_sights(promises,events)
+first_impossible(promises,events) could_be_seen(promises,events) earliest(promises,events,hold)
+needed_puts(promises,events,number) least_puts(promises,events,number) needed_helpers(promises,events)
+least_helpers(promises,events) needed_lines(drafts,events)
+"""
+
 INTERFACE = {
     "books": BOOKS, "deeds": DEEDS, "touches": TOUCHES, "ever": EVER, "letters": LETTERS, "outsides": OUTSIDES,
     "follows": FOLLOWS, "models": MODELS, "cities": CITIES, "promises": PROMISES, "blame": BLAME, "offers": OFFERS,
-    "unsure": UNSURE,
+    "unsure": UNSURE, "secrets": SECRETS, "lean": LEAN, "seen": SEEN,
 }
 
 

@@ -1,10 +1,8 @@
 """Blame: which HOUSES could have broken their promises, if some HOLDS were seen to come."""
 
-from touchrights.cities import (
-    all_come_in_all, comes_in_all, houses_with, need_ends, ties_of_all, told_in_all, with_plot,
-)
+from touchrights.cities import all_come_in_all, comes_in_all, houses_with, need_ends, ties_of_all, told_in_all
 from touchrights.errors import Unfit
-from touchrights.forms import as_set, need_numbers, new_names, tupled
+from touchrights.forms import as_set, need_numbers, new_names, tupled, with_part
 from touchrights.promises import bring_it_about, freed_in, full_plot
 from touchrights.subsets import least_sets
 from touchrights.ties import rights_told
@@ -85,7 +83,7 @@ def least_breakers_knowing(promises, sights, known):
     numbers = [number for number, _ in known]
     _need_sights(promises, sights, numbers)
     for number, lines in known:
-        promises = with_plot(promises, number, (promises[number][0], lines))
+        promises = with_part(promises, number, (promises[number][0], lines))
     return _least_of(promises, sights, [place for place in range(len(promises)) if place not in numbers])
 
 

@@ -5,7 +5,7 @@ from itertools import combinations
 from touchrights.books import common_members
 from touchrights.errors import Unfit
 from touchrights.follows import is_edge, is_plot, lines_that_come, ties_of
-from touchrights.forms import as_set, is_tuple_of, lies_among, need_members, need_numbers, tupled
+from touchrights.forms import as_set, is_tuple_of, lies_among, need_members, need_numbers, tupled, with_part
 from touchrights.letters import edge_of, is_house, letter_of
 from touchrights.models import house_for
 from touchrights.subsets import fewest_of, least_sets
@@ -121,14 +121,9 @@ def joined_plots(city, number, other):
     if number == other:
         raise Unfit()
     both = (city[number], city[other])
-    plots = list(with_plot(city, number, (edge_of_all(both), letter_of_all(both))))
+    plots = list(with_part(city, number, (edge_of_all(both), letter_of_all(both))))
     del plots[other]
     return tuple(plots)
-
-
-def with_plot(city, number, plot):
-    """The CITY with this plot at this place."""
-    return city[:number] + (plot,) + city[number + 1:]
 
 
 def emptied(edge):
@@ -164,25 +159,25 @@ def _surroundings_of(city, number):
 def changed_for(city, number, lines):
     city, lines = tupled(city), tupled(lines)
     need_numbers(len(city), (number,))
-    changed = with_plot(city, number, (city[number][0], lines))
+    changed = with_part(city, number, (city[number][0], lines))
     others = [place for place in range(len(city)) if place != number]
     return tuple([place for place in others if _surroundings_of(city, place) != _surroundings_of(changed, place)])
 
 
-def _with_only(city, some):
+def with_only(city, some):
     """The CITY with all plots emptied but those at these places."""
     return tuple([plot if place in some else emptied(plot[0]) for place, plot in enumerate(city)])
 
 
 def _without(city, place):
-    return with_plot(city, place, emptied(city[place][0]))
+    return with_part(city, place, emptied(city[place][0]))
 
 
 def brings_it(city, some, hold):
     city, hold = tupled(city), tupled(hold)
     need_numbers(len(city), some)
     need_ends(city, (hold,))
-    return comes_in_all(_with_only(city, some), hold)
+    return comes_in_all(with_only(city, some), hold)
 
 
 def _need_that_it_comes(city, hold):
@@ -201,7 +196,7 @@ def fewest_places(city, hold):
     city, hold = tupled(city), tupled(hold)
     _need_that_it_comes(city, hold)
     places = list(range(len(city)))
-    return fewest_of(least_sets(places, lambda some: comes_in_all(_with_only(city, some), hold)))
+    return fewest_of(least_sets(places, lambda some: comes_in_all(with_only(city, some), hold)))
 
 
 def idle_places(city, border):

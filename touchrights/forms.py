@@ -13,6 +13,11 @@ def tupled(value):
     return value
 
 
+def with_part(rows, place, part):
+    """The tuple with this part at this place."""
+    return rows[:place] + (part,) + rows[place + 1:]
+
+
 def as_set(rows):
     return tuple(sorted(set(rows)))
 

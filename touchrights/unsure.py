@@ -1,9 +1,9 @@
 """HOUSES not wholly known: what comes in all, in some HOUSES between what is sure and what is promised."""
 
-from touchrights.cities import all_come_in_all, comes_in_all, is_city, need_ends, with_plot
+from touchrights.cities import all_come_in_all, comes_in_all, is_city, need_ends
 from touchrights.errors import Unfit
 from touchrights.follows import lines_that_come
-from touchrights.forms import lies_among, need_numbers, tupled
+from touchrights.forms import lies_among, need_numbers, tupled, with_part
 from touchrights.subsets import least_sets
 
 
@@ -50,7 +50,7 @@ def told_more(city, promises, number, line):
     if line not in promises[number][1]:
         raise Unfit()
     edge, lines = city[number]
-    return with_plot(city, number, (edge, lines_that_come(edge, lines + (line,))))
+    return with_part(city, number, (edge, lines_that_come(edge, lines + (line,))))
 
 
 def _unsure_lines(city, promises):
