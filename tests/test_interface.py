@@ -126,10 +126,29 @@ needed_puts(promises,events,number) least_puts(promises,events,number) needed_he
 least_helpers(promises,events) needed_lines(drafts,events)
 """
 
+JUDGE = """
+is_claim(thing) stands(claim) paper_against(claim) is_paper_against(claim,thing) first_fallen(claims)
+mending_holds(claim) breaking_holds(claim)
+"""
+
+TEXTS = """
+book_text(book) house_text(house) lines_text(edge,lines) deeds_text(deeds) city_text(city) read_book(text)
+read_house(text) read_deeds(text) read_lines(text) read_city(text)
+"""
+
+BOARD = """
+Board(houses)
+"""
+
+DESK = """
+is_request(thing) replies(houses,text)
+"""
+
 INTERFACE = {
     "books": BOOKS, "deeds": DEEDS, "touches": TOUCHES, "ever": EVER, "letters": LETTERS, "outsides": OUTSIDES,
     "follows": FOLLOWS, "models": MODELS, "cities": CITIES, "promises": PROMISES, "blame": BLAME, "offers": OFFERS,
-    "unsure": UNSURE, "secrets": SECRETS, "lean": LEAN, "seen": SEEN,
+    "unsure": UNSURE, "secrets": SECRETS, "lean": LEAN, "seen": SEEN, "judge": JUDGE, "texts": TEXTS,
+    "board": BOARD, "desk": DESK,
 }
 
 

@@ -383,6 +383,44 @@ class Code(unittest.TestCase):
                         if part.func.attr in changing:
                             self.assertNotEqual(ast.dump(part.func.value), name, where)
 
+    def test_no_generator_where_a_class_is_compared(self):
+        """A class of the package has __eq__ and __len__: so all, any, sorted and the like take lists."""
+        for where, node in self.nodes():
+            self.assertNotIsInstance(node, (ast.GeneratorExp, ast.Yield, ast.YieldFrom), where)
+            if isinstance(node, ast.Call) and isinstance(node.func, ast.Attribute):
+                self.assertNotEqual(node.func.attr, "sort", where)
+
+    def test_own_errors_alone_are_caught(self):
+        own = {node.name for tree in TREES.values() for node in ast.walk(tree) if isinstance(node, ast.ClassDef)}
+        for where, node in self.nodes():
+            if isinstance(node, ast.ExceptHandler):
+                self.assertIn(ast.unparse(node.type), own, where)
+
+    def test_methods_with_double_underscores(self):
+        """None but __init__, __eq__ and __len__, the latter two in plain forms; nothing is iterated over."""
+        for where, node in self.nodes():
+            if isinstance(node, ast.FunctionDef) and node.name.startswith("__"):
+                self.assertIn(node.name, ("__init__", "__eq__", "__len__"), where)
+            if isinstance(node, ast.FunctionDef) and node.name in ("__eq__", "__len__"):
+                self.assertEqual([type(part) for part in node.body], [ast.Return], where)
+            if isinstance(node, ast.FunctionDef) and node.name == "__len__":
+                self.assertEqual(ast.unparse(node.body[0].value)[:4], "len(", where)
+            if isinstance(node, ast.FunctionDef) and node.name == "__init__":
+                self.assertEqual([part for part in ast.walk(node) if isinstance(part, ast.Return)], [], where)
+
+    def test_no_name_is_a_method_and_an_attribute_of_one_class(self):
+        for where, node in self.nodes():
+            if isinstance(node, ast.ClassDef):
+                methods = {part.name for part in node.body if isinstance(part, ast.FunctionDef)}
+                stored = {part.attr for part in ast.walk(node) if isinstance(part, ast.Attribute)
+                          and isinstance(part.ctx, ast.Store)}
+                self.assertFalse(methods & stored, where)
+
+    def test_tables_are_read_by_a_name_ahead_of_a_call(self):
+        for where, node in self.nodes():
+            if isinstance(node, ast.Call):
+                self.assertNotIsInstance(node.func, (ast.Subscript, ast.Call), where)
+
     def test_nothing_outside_is_asked(self):
         for where, node in self.nodes():
             if isinstance(node, ast.Name) and where[0].name != "__main__.py":
