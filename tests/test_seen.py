@@ -343,6 +343,8 @@ class Errors(Rules, unittest.TestCase):
             self.assert_raises("NoMember", {"name": "ann"}, function, (), (EARLY,))
         self.assert_raises("NoMember", {"name": "eve"}, needed_lines, DRAFTS, (eve, zed))
         self.assert_raises("NoMember", {"name": "dan"}, needed_lines, DRAFTS, (LATE, EARLY))
+        stray = DRAFTS + (((("ann",), ()), (("flows", "ann", "cup"),)),)
+        self.assert_raises("NoMember", {"name": "cup"}, needed_lines, stray, (eve,))
         self.assert_raises("NoMember", {"name": "eve"}, earliest, PROMISES, (eve,), ("x", "own", "y"))
         self.assert_raises("NoMember", {"name": "x"}, earliest, PROMISES, (GIFT,), ("x", "own", "y"))
         self.assert_raises("NoMember", {"name": ""}, earliest, PROMISES, (GIFT,), ("box", "own", ""))
